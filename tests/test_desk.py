@@ -47,6 +47,17 @@ ALL_ANSWERED = [3, 0, THREE, 0,
                 3, 0, (0x3FFD << 112) + int("5" * 28, 16) + 1, NX]
 
 
+def changed(*told):
+    raise AssertionError("what is handed in was changed")
+
+
+class Unchanging(list):
+    """A list that tells of every change, one that is taken back too."""
+
+    append = clear = extend = insert = pop = remove = reverse = sort = changed
+    __setitem__ = __delitem__ = __iadd__ = __imul__ = changed
+
+
 class Lists(unittest.TestCase):
     def test_no_call(self):
         self.assertEqual(answers([]), [])
@@ -75,6 +86,7 @@ class Lists(unittest.TestCase):
         calls = list(ALL)
         answers(calls)
         self.assertEqual(calls, ALL)
+        self.assertEqual(answers(Unchanging(ALL)), ALL_ANSWERED)
 
     def test_a_second_time_answers_as_the_first(self):
         first = answers(list(ALL))
