@@ -6,7 +6,8 @@ from quadnumbers.rounding import DOWN, DZ
 
 # Beyond 114 bits of a quotient or a root, one bit that tells whether anything is left is
 # as good as all of it: grids and the middles between their points lie further up.
-# By so many bits the whole numbers are widened to have at least 115.
+# So many bits are asked for, and to have them in a root its square is widened by so many.
+ENOUGH = 115
 WIDENED = 228
 
 
@@ -56,11 +57,12 @@ def multiply(x, y, mode):
     return as_quad(product(x, y), mode)
 
 
-def divide_finite(sign, x, y, mode):
-    widened = x.size << WIDENED
-    left = 1 if widened % y.size > 0 else 0
-    size = (widened // y.size) * 2 + left
-    return as_quad(finite(sign, size, x.power - y.power - WIDENED - 1), mode)
+# (-1)^sign times top / bottom times 2^power, of which as much is left as rounding may look at.
+def ratio(sign, top, bottom, power):
+    widened_by = bottom.bit_length() + ENOUGH
+    widened = top << widened_by
+    left = 1 if widened % bottom > 0 else 0
+    return finite(sign, (widened // bottom) * 2 + left, power - widened_by - 1)
 
 
 def divide(x, y, mode):
@@ -73,7 +75,7 @@ def divide(x, y, mode):
         return [zero(sign), 0]
     if y.kind == ZERO:
         return [infinity(sign), DZ]
-    return divide_finite(sign, x, y, mode)
+    return as_quad(ratio(sign, x.size, y.size, x.power - y.power), mode)
 
 
 def op(which, a, b, mode):

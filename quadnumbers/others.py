@@ -1,14 +1,14 @@
-"""Half, single, double and extended numbers, and quadruple numbers from them."""
+"""Half, single, double and extended numbers: quadruple numbers from them, and they from these."""
 
 from quadnumbers.parts import SIGNALING, Parts, beyond_finite, finite, ones, take_apart
-from quadnumbers.quads import as_quad
-from quadnumbers.rounding import TO_EVEN
+from quadnumbers.quads import as_quad, parts_of
+from quadnumbers.rounding import TO_EVEN, put_together
 
-HALF = (5, 10)
-SINGLE = (8, 23)
-DOUBLE = (11, 52)
+# The forms of half, single, double and extended numbers, the last with its top bit hidden as in the others.
+FORMS = ((5, 10), (8, 23), (11, 52), (15, 63))
+EXTENDED = 3
 
-# How many bits a half, single, double and extended number has.
+# How many bits each of them has.
 WIDTHS = (16, 32, 64, 80)
 
 
@@ -31,15 +31,25 @@ def take_apart_extended(bits):
 
 
 def take_apart_other(form, bits):
-    if form == 0:
-        return take_apart(HALF, bits)
-    if form == 1:
-        return take_apart(SINGLE, bits)
-    if form == 2:
-        return take_apart(DOUBLE, bits)
-    return take_apart_extended(bits)
+    if form == EXTENDED:
+        return take_apart_extended(bits)
+    return take_apart(FORMS[form], bits)
 
 
 # All of them fit exactly, so the mode is never looked at.
 def from_other(form, bits):
     return as_quad(take_apart_other(form, bits), TO_EVEN)
+
+
+# An extended number with its top bit put in: it is 0 only where the exponent field is.
+def with_top_bit(bits):
+    sign_and_field = bits >> 63
+    top = 1 if sign_and_field & ones(15) > 0 else 0
+    return (sign_and_field << 64) + (top << 63) + (bits & ones(63))
+
+
+def to_other(form, a, mode):
+    made = put_together(FORMS[form], parts_of(a), mode)
+    if form == EXTENDED:
+        return [with_top_bit(made[0]), made[1]]
+    return made

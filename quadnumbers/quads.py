@@ -1,7 +1,7 @@
 """Quadruple numbers: their bits taken apart, and answers put together."""
 
-from quadnumbers.parts import INFINITE, QUADRUPLE, QUIET, SIGNALING, ZERO, take_apart
-from quadnumbers.rounding import NV, round_to
+from quadnumbers.parts import QUADRUPLE, QUIET, SIGNALING, take_apart
+from quadnumbers.rounding import NV, put_together
 
 SIGN_BIT = 0x80000000000000000000000000000000
 INFINITY = 0x7fff0000000000000000000000000000
@@ -48,12 +48,5 @@ def nan_answer(numbers):
     return [CANONICAL_NAN, nan_flags(numbers)]
 
 
-# The bits and flags of a number taken apart, whatever its kind.
 def as_quad(number, mode):
-    if is_nan(number):
-        return nan_answer([number])
-    if number.kind == INFINITE:
-        return [infinity(number.sign), 0]
-    if number.kind == ZERO:
-        return [zero(number.sign), 0]
-    return round_to(QUADRUPLE, number.sign, number.size, number.power, mode)
+    return put_together(QUADRUPLE, number, mode)

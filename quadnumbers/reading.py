@@ -32,8 +32,8 @@ NUMBERS = {
     27: ("to 3", "mode"),
 }
 
-# How many rows stand behind the whole numbers of a call, where there are any.
-ROWS = {19: 1, 20: 1, 21: 2, 22: 1}
+# The rows behind the whole numbers of a call, where there are any: how long each of them may be.
+ROWS = {19: (512,), 20: (64,), 21: (64, 64), 22: (64,)}
 
 LIMITS = {
     "quad": (0, 340282366920938463463374607431768211455),
@@ -71,15 +71,27 @@ def read_calls(calls):
     while place < len(calls):
         number = calls[place]
         behind = place + 1 + len(NUMBERS[number])
-        rows = read_rows(calls, behind, ROWS.get(number, 0))
+        rows = read_rows(calls, behind, len(ROWS.get(number, ())))
         found.append(Call(number, calls[place + 1:behind], rows))
         place = behind + sum([1 + len(row) for row in rows])
     return found
 
 
-def is_as_told(call):
+def has_fitting_numbers(call):
     for number, word in zip(call.numbers, NUMBERS[call.number]):
         limits = LIMITS[word]
         if number < limits[0] or number > limits[1]:
             return False
     return True
+
+
+# Two rows belong together place by place, so they are as long as one another.
+def has_fitting_rows(call):
+    for row, longest in zip(call.rows, ROWS.get(call.number, ())):
+        if len(row) > longest or len(row) != len(call.rows[0]):
+            return False
+    return True
+
+
+def is_as_told(call):
+    return has_fitting_numbers(call) and has_fitting_rows(call)

@@ -1,6 +1,6 @@
-"""Real numbers rounded to a format by a mode, with the flags that this raises."""
+"""Numbers rounded to a format by a mode, with the flags that this raises."""
 
-from quadnumbers.parts import bias, ones
+from quadnumbers.parts import INFINITE, QUIET, SIGNALING, ZERO, bias, ones
 
 TO_EVEN = 0
 TOWARD_ZERO = 1
@@ -57,11 +57,22 @@ def is_tiny(form, sign, size, power, mode):
     return exponent(multiple(sign, size, power, grid, mode), grid) < 1 - bias(form)
 
 
+def zero_bits(form, sign):
+    return sign << (form[0] + form[1])
+
+
+def infinity_bits(form, sign):
+    return zero_bits(form, sign) + (ones(form[0]) << form[1])
+
+
+def canonical_nan(form):
+    return infinity_bits(form, 0) + (1 << (form[1] - 1))
+
+
 def overflow_bits(form, sign, mode):
-    infinity_bits = ones(form[0]) << form[1]
     leads_inward = mode == TOWARD_ZERO or (mode == DOWN and sign == 0) or (mode == UP and sign == 1)
     # The bits of the greatest finite number come right before the infinity's.
-    return (sign << (form[0] + form[1])) + infinity_bits - (1 if leads_inward else 0)
+    return infinity_bits(form, sign) - (1 if leads_inward else 0)
 
 
 def loss(form, sign, size, power, grid, mode):
@@ -79,5 +90,16 @@ def round_to(form, sign, size, power, mode):
         return [overflow_bits(form, sign, mode), OF | NX]
     # Adding lets the hidden bit of the count, or its carry, raise the exponent field.
     field = grid - (least - form[1])
-    bits = (sign << (form[0] + form[1])) + (field << form[1]) + count
+    bits = zero_bits(form, sign) + (field << form[1]) + count
     return [bits, loss(form, sign, size, power, grid, mode)]
+
+
+# The bits and flags of a number taken apart, whatever its kind.
+def put_together(form, number, mode):
+    if number.kind >= QUIET:
+        return [canonical_nan(form), NV if number.kind == SIGNALING else 0]
+    if number.kind == INFINITE:
+        return [infinity_bits(form, number.sign), 0]
+    if number.kind == ZERO:
+        return [zero_bits(form, number.sign), 0]
+    return round_to(form, number.sign, number.size, number.power, mode)

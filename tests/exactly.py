@@ -1,4 +1,4 @@
-"""The calls 0 to 13 reckoned anew with exact fractions, after the document's words.
+"""The calls 0 to 16 reckoned anew with exact fractions, after the document's words.
 
 Nothing here comes from the package. A number is a pair: a word ("number", "infinity", "quiet",
 "signaling") and its sign, with the fraction behind them for a number.
@@ -93,22 +93,28 @@ def encode(size, negative):
     return zero(negative) + field * 2**112 + count.numerator
 
 
-def rounded(r, mode):
+def rounding(r, mode, bias, fraction_bits):
+    """The size that r is rounded to, None for an infinity, and the flags."""
     if r == 0:
         raise AssertionError("zeros have their signs from elsewhere")
     e = log_two(abs(r))
-    unit = two(max(e, -16382) - 112)
+    unit = two(max(e, 1 - bias) - fraction_bits)
     near = neighbour(r, unit, mode) * unit
-    if abs(near) >= two(16384):
+    if abs(near) >= two(bias + 1):
         finite = mode == 1 or (mode == 2 and r > 0) or (mode == 3 and r < 0)
-        return [infinity(r < 0) - finite, OF + NX]
+        return (2 - two(-fraction_bits)) * two(bias) if finite else None, OF + NX
     flags = 0
     if near != r:
         flags = NX
-        fine = two(e - 112)
-        if abs(neighbour(r, fine, mode) * fine) < two(-16382):
+        fine = two(e - fraction_bits)
+        if abs(neighbour(r, fine, mode) * fine) < two(1 - bias):
             flags = NX + UF
-    return [encode(abs(near), r < 0), flags]
+    return abs(near), flags
+
+
+def rounded(r, mode):
+    size, flags = rounding(r, mode, 16383, 112)
+    return [infinity(r < 0) if size is None else encode(size, r < 0), flags]
 
 
 def words(*numbers):
@@ -336,7 +342,66 @@ def from_other(form, bits):
     return told(decode_extended(bits) if form == 3 else decode(bits, *WIDTHS[form]), 0)
 
 
-CALLS = (op, root, fused, remainder, scale, whole, beside, split, pick, sign, compare, order, class_of, from_other)
+def encode_other(form, size, negative):
+    """The bits of a size that is a number of the format, or of an infinity."""
+    if form == 3:
+        bias, fraction_bits, exponent_bits = 16383, 63, 15
+    else:
+        exponent_bits, fraction_bits = WIDTHS[form]
+        bias = 2**(exponent_bits - 1) - 1
+    if size is None:
+        field, count = 2 * bias + 1, 2**fraction_bits
+    elif size < two(1 - bias):
+        field, count = 0, size / two(1 - bias - fraction_bits)
+    else:
+        field = log_two(size) + bias
+        count = size / two(field - bias - fraction_bits)
+    if Fraction(count).denominator != 1:
+        raise AssertionError("no number of the format")
+    if form != 3 and field > 0:
+        count = count - 2**fraction_bits
+    place = 64 if form == 3 else fraction_bits
+    return int(count) + field * 2**place + negative * 2**(place + exponent_bits)
+
+
+def to_other(form, a, mode):
+    x = decode(a)
+    if nan_of(x):
+        nan = int("0" + {0: "1" * 6 + "0" * 9, 1: "1" * 9 + "0" * 22, 2: "1" * 12 + "0" * 51,
+                         3: "1" * 17 + "0" * 62}[form], 2)
+        return [nan, nan_of(x)[1]]
+    if x[0] == "infinity":
+        return [encode_other(form, None, x[1]), 0]
+    if x[2] == 0:
+        return [encode_other(form, x[2], x[1]), 0]
+    bias, fraction_bits = ((15, 10), (127, 23), (1023, 52), (16383, 63))[form]
+    size, flags = rounding(x[2], mode, bias, fraction_bits)
+    return [encode_other(form, size, x[1]), flags]
+
+
+def of_whole(sort, v, mode):
+    count = (1, 1, 2, 2, 4, 4, 8, 8, 16, 16)[sort]
+    low = v.to_bytes(16, "little")[:count]
+    value = int.from_bytes(low, "little", signed=sort % 2 == 0)
+    return rounded(Fraction(value), mode) if value != 0 else [0, 0]
+
+
+def to_whole(sort, a, mode):
+    bits = (8, 8, 16, 16, 32, 32, 64, 64, 128, 128)[sort]
+    low, high = (-2**(bits - 1), 2**(bits - 1) - 1) if sort % 2 == 0 else (0, 2**bits - 1)
+    x = decode(a)
+    if nan_of(x) or key(x) > high + 1:
+        return [high, NV]
+    if key(x) < low - 1:
+        return [low % 2**128, NV]
+    near = neighbour(x[2], 1, mode)
+    if low <= near <= high:
+        return [near % 2**128, 0 if near == x[2] else NX]
+    return [(low if near < low else high) % 2**128, NV]
+
+
+CALLS = (op, root, fused, remainder, scale, whole, beside, split, pick, sign, compare, order, class_of, from_other,
+         to_other, of_whole, to_whole)
 
 
 def ask(number, *numbers):

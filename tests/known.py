@@ -32,6 +32,7 @@ EDGES = [
 EDGES = EDGES + [bits | SIGN for bits in EDGES]
 
 REFUSED = "-1 alone"
+TOO_MANY = "-2 alone"
 
 
 def power(exponent):
@@ -41,11 +42,48 @@ def power(exponent):
     return 1 << (exponent + 16494)
 
 
+def quad(size, exponent=0):
+    """The bits of size 2^exponent, where that is a number of the format."""
+    sign, size = (SIGN if size < 0 else 0), abs(size)
+    while size % 2 == 0 and size > 0:
+        size, exponent = size // 2, exponent + 1
+    top = exponent + size.bit_length() - 1
+    if size == 0:
+        return sign
+    if not (-16494 <= exponent and size < 2**113 and top <= 16383):
+        raise AssertionError("no number of the format")
+    if top < -16382:
+        return sign | size << (exponent + 16494)
+    return sign | ((top + 16382) << 112) + (size << (112 - (top - exponent)))
+
+
 def ask(*numbers):
-    """What one call answers behind its 0, or REFUSED (an order of -1 has a 0 ahead)."""
+    """What one call answers behind its 0, or REFUSED or TOO_MANY (an order of -1 has a 0 ahead)."""
     told = answers(list(numbers))
     if told == [1, -1]:
         return REFUSED
+    if told == [1, -2]:
+        return TOO_MANY
     if told[0] != len(told) - 1 or told[1] != 0:
         raise AssertionError("neither an answer nor a refusal: %r" % (told,))
     return told[2:]
+
+
+def text_of(told):
+    """The text that show or hex told, ahead of which stands how many bytes it has."""
+    if told[0] != len(told) - 1:
+        raise AssertionError("not so many bytes: %r" % (told,))
+    return bytes(told[1:]).decode("ascii")
+
+
+def show(a, digits=0, mode=0):
+    return text_of(ask(17, a, digits, mode))
+
+
+def in_hex(a):
+    return text_of(ask(18, a))
+
+
+def read(text, mode=0):
+    row = text.encode("latin-1")
+    return ask(19, mode, len(row), *row)

@@ -1,61 +1,10 @@
-"""The calls against exact reckoning, over many inputs of every kind."""
+"""The calls 0 to 13 against exact reckoning, over many inputs of every kind."""
 
-import random
 import unittest
 
 import exactly
+from inputs import Inputs
 from known import EDGES, GREATEST, LEAST_NORMAL, MODES, NAN, ONE, SIGN, SIGNALING, ask, power
-
-
-class Inputs:
-    """Numbers of every kind, the same in every run."""
-
-    def __init__(self, seed):
-        self.source = random.Random(seed)
-
-    def fraction(self):
-        one = self.source
-        kind = one.randrange(6)
-        if kind == 0:
-            return one.getrandbits(112)
-        if kind == 1:
-            return (one.getrandbits(8) << 104) | one.getrandbits(3)
-        if kind == 2:
-            return (1 << 112) - 1 - one.getrandbits(one.randrange(1, 20))
-        if kind == 3:
-            return 1 << one.randrange(112)
-        if kind == 4:
-            return one.getrandbits(56) << 56
-        return one.getrandbits(4)
-
-    def field(self, near=None):
-        one = self.source
-        kind = one.randrange(8)
-        if kind < 4 and near is not None:
-            return min(32766, max(0, near + one.randrange(-118, 119)))
-        if kind < 2:
-            return one.randrange(0, 32767)
-        if kind == 2:
-            return one.randrange(0, 3)
-        if kind == 3:
-            return one.randrange(32764, 32767)
-        if kind == 4:
-            return one.randrange(16383 // 2 - 70, 16383 // 2 + 70)
-        if kind == 5:
-            return one.randrange(16383 + 8192 - 70, 16383 + 8192 + 70)
-        return one.randrange(16383 - 120, 16383 + 120)
-
-    def quad(self, near=None):
-        one = self.source
-        if one.randrange(16) == 0:
-            return one.choice(EDGES)
-        if one.randrange(40) == 0:
-            return one.getrandbits(128)
-        return (one.getrandbits(1) << 127) | (self.field(near) << 112) | self.fraction()
-
-    def pair(self):
-        first = self.quad()
-        return first, self.quad((first >> 112) & 32767)
 
 
 class AgainstExactReckoning(unittest.TestCase):
