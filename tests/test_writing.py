@@ -92,6 +92,10 @@ class Fewest(unittest.TestCase):
         self.check(power(110) + 3, "1.2980742146337069071326240823050248e33")
         self.assertEqual(read("1.2980742146337069071326240823050243e33")[1], power(110) + 1)
         self.assertEqual(read("1.2980742146337069071326240823050247e33")[1], power(110) + 3)
+        for step in range(20):
+            whole = str(2**110 + step)
+            self.check(power(110) + 4 * step + 1, whole[0] + "." + whole[1:] + "2e33")
+            self.check(power(110) + 4 * step + 3, whole[0] + "." + whole[1:] + "8e33")
 
     def test_powers_of_two_lie_nearer_to_what_is_below(self):
         # The nearest text of that many digits lies below and is read as another number.
@@ -107,6 +111,26 @@ class Fewest(unittest.TestCase):
         self.check(power(-50), "8.881784197001252323389053344726563e-16")
         self.assertEqual(show(power(-50), 35, 0), "8.8817841970012523233890533447265625e-16")
         self.assertEqual(read("8.881784197001252323389053344726562e-16")[1], power(-50) - 1)
+
+    def test_the_ends_of_what_is_read_as_a_number(self):
+        # 10^49 and the others have 114 bits, so they lie in the middle of two numbers and are read as the even one.
+        sides = []
+        for text in ("1e49", "3e48", "1.7e48", "1.9e48", "2.1e48", "2.3e48", "2.7e48", "2.9e48", "3.1e47", "5.7e47"):
+            digits, mark, exponent = text.partition("e")
+            whole = int(digits.replace(".", "")) * 10**(int(exponent) - len(digits.partition(".")[2]))
+            odd = whole
+            while odd % 2 == 0:
+                odd = odd // 2
+            if odd.bit_length() == 114:
+                used, a, flags = read(text)
+                self.assertEqual((a % 2, flags), (0, 1))
+                self.check(a, text)
+                low, high = read(text, 2)[1], read(text, 3)[1]
+                self.assertEqual(high, low + 1)
+                self.assertNotEqual(show(low + high - a), text)
+                sides.append(a == low)
+        # Both ends are among them.
+        self.assertEqual(set(sides), {True, False})
 
     def test_ties_are_read_as_the_even_number(self):
         # 2^114 + 2, in the middle of two numbers, is read as the lower one, which is even; 2^114 + 6 as the upper one.
